@@ -1,0 +1,1 @@
+"""Warmcold: a thing sought by warmer and colder."""
