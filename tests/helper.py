@@ -19,6 +19,19 @@ NO_STANDS = (
     [1, True], [1, None], [1, 1, 0], [1] * 39 + [True], [1] * 41, [1] * 100, [None] * 41,
 )
 
+# None of them is a stretch of any path.
+NO_STRETCHES = (
+    True, False, None, "", "12", 0, 1, -1, 10 ** 39, [], [1, 2], [1, 1], DEEP, (), (1,), (1, 2, 3), (1, 1, 1), ((1, 2),),
+    (2, 1), (1, 0), (0, 1), (0, 0), (-1, 1), (-2, -1), (1, 61), (61, 61), (1, 10 ** 39), (-(10 ** 39), 1),
+    (True, 2), (1, True), (False, 1), (True, True), (None, 1), (1, None), (None, None), ("1", "2"), (1, "2"),
+    ([1], [2]), (1, [2]), ((1,), (2,)), ((1, 2), (1, 2)), (1,) * 100,
+)
+
+NO_WORDS = (
+    True, False, None, 0, 1, -1, 10 ** 39, "", "Warm", "WARM", "warm ", " cold", "hot", "s", "warmcold", "~" * 100,
+    [], (), ["warm"], ("warm",), ("warm", "cold", "same"), DEEP,
+)
+
 
 def no_answers(many):
     """Values that are no answers to stands that want so many words."""
@@ -27,11 +40,10 @@ def no_answers(many):
         True, False, None, "", "warm", 0, 1, -1, 10 ** 39, (), tuple(good), ("warm",), DEEP,
         good + ["warm"], good + [None], good + [[]], ["same"] * 100,
     ]
-    wrong_words = (True, False, None, 0, 1, "", "Warm", "WARM", "warm ", " cold", "hot", "s", ["warm"], ("warm",))
     if many:
         values.append([])
         values.append(good[1:])
-        for word in wrong_words:
+        for word in NO_WORDS:
             values.append([word] + good[1:])
             values.append(good[1:] + [word])
     return values
@@ -80,6 +92,19 @@ def drawn_paths():
     for length in range(1, 61):
         for seed in range(12):
             yield length, drawn_stands(length, seed)
+
+
+def drawn_answers(stands, seed):
+    """Answers that look drawn, most often not all of them right for one place."""
+    answers, state = [], seed * 7919 + len(stands)
+    for _ in stands[1:]:
+        state = (state * 1103515245 + 12345) % 2147483648
+        answers.append(WORDS[state // 65536 % 3])
+    return answers
+
+
+def all_stretches(length):
+    return [(low, high) for low in range(1, length + 1) for high in range(low, length + 1)]
 
 
 def mirrored(length, places):

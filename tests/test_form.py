@@ -13,6 +13,18 @@ INTERFACE = {
         "how_many": ["length", "stands"], "alike": ["length", "stands"],
         "fewest_ahead": ["length"], "stands_ahead": ["length"],
     },
+    "going.py": {
+        "stands_from": ["length", "stretch", "place"], "stands_at_all": ["length"],
+        "steps_from": ["length", "stretch", "place"],
+    },
+    "wrong.py": {"fewest_wrong": ["length", "stands", "answers"]},
+    "rings.py": {"can_lie_round": ["length", "stands", "answers"], "how_many_round": ["length", "stands"]},
+}
+
+METHODS = {
+    "__init__": ["self", "length"], "stand": ["self", "place"], "answer": ["self", "word"], "back": ["self"],
+    "stands": ["self"], "answers": ["self"], "can_lie": ["self"], "waits": ["self"],
+    "__len__": ["self"], "__eq__": ["self", "other"],
 }
 
 BARRED_WORDS = re.compile(
@@ -25,16 +37,27 @@ def sources():
     return [(path.name, path.read_text(encoding="utf-8")) for path in sorted(PACKAGE.glob("*.py"))]
 
 
+def body_of(name):
+    return ast.parse((PACKAGE / name).read_text(encoding="utf-8")).body
+
+
+def arguments_by_name(body):
+    return {
+        node.name: [argument.arg for argument in node.args.args]
+        for node in body if isinstance(node, ast.FunctionDef)
+    }
+
+
 class FormTest(unittest.TestCase):
     def test_the_interface_is_defined_in_its_files(self):
         for name, functions in INTERFACE.items():
-            tree = ast.parse((PACKAGE / name).read_text(encoding="utf-8"))
-            found = {
-                node.name: [argument.arg for argument in node.args.args]
-                for node in tree.body if isinstance(node, ast.FunctionDef)
-            }
+            found = arguments_by_name(body_of(name))
             for function, arguments in functions.items():
                 self.assertEqual(found.get(function), arguments, function)
+
+    def test_the_methods_are_defined_in_the_class_itself(self):
+        bodies = {node.name: node.body for node in body_of("searches.py") if isinstance(node, ast.ClassDef)}
+        self.assertEqual(arguments_by_name(bodies["Search"]), METHODS)
 
     def test_only_python_files(self):
         others = [path.name for path in PACKAGE.iterdir() if path.suffix != ".py" and path.name != "__pycache__"]
@@ -58,6 +81,12 @@ class FormTest(unittest.TestCase):
                 if isinstance(node, ast.ImportFrom):
                     self.assertEqual(node.level, 0, name)
                     self.assertTrue(node.module.startswith("warmcold."), name)
+
+    def test_no_generator_expression(self):
+        # A class of the package has an __eq__, and beside it any, all and their like take lists.
+        for name, text in sources():
+            for node in ast.walk(ast.parse(text)):
+                self.assertNotIsInstance(node, ast.GeneratorExp, name)
 
     def test_no_barred_word(self):
         for name, text in sources():

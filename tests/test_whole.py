@@ -1,4 +1,4 @@
-"""Point 3, as far as it speaks of answers, of places and of stands told ahead."""
+"""Point 3, as far as it speaks of answers, of places and of stands told ahead; the rest stands with points 8 to 12."""
 
 import itertools
 import unittest

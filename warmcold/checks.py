@@ -1,8 +1,9 @@
 """Whether what is handed in is what it should be; each check refuses or does nothing."""
 
-from warmcold.errors import NoAnswers, NoLength, NoPlace, NoStands
+from warmcold.errors import NoAnswer, NoAnswers, NoLength, NoPlace, NoStands, NoStretch, TooLong
 
 LONGEST_PATH = 60
+LONGEST_GOING = 16
 MOST_STANDS = 40
 WORDS = ("warm", "cold", "same")
 
@@ -25,6 +26,12 @@ def check_length(length):
         raise NoLength(f"a length is a whole number from 1 to {LONGEST_PATH}")
 
 
+def check_going_length(length):
+    check_length(length)
+    if length > LONGEST_GOING:
+        raise TooLong(LONGEST_GOING)
+
+
 def check_place(place, length):
     if not is_place(place, length):
         raise NoPlace(f"a place is a whole number from 1 to {length}")
@@ -44,3 +51,16 @@ def check_answers(answers, stands):
         raise NoAnswers(f"answers to these stands are a list of {wanted} words")
     if not all([is_word(answer) for answer in answers]):
         raise NoAnswers("each answer is warm, cold or same")
+
+
+def check_answer(word):
+    if not is_word(word):
+        raise NoAnswer("an answer is warm, cold or same")
+
+
+def check_stretch(stretch, length):
+    if not isinstance(stretch, tuple) or len(stretch) != 2:
+        raise NoStretch("a stretch is a tuple of two places")
+    low, high = stretch
+    if not is_place(low, length) or not is_place(high, length) or low > high:
+        raise NoStretch(f"a stretch goes from a place to one no less, both from 1 to {length}")

@@ -3,14 +3,17 @@
 from warmcold.checks import check_answers, check_length, check_place, check_stands
 
 
-def answer_to_move(thing, earlier, later):
-    before = abs(thing - earlier)
-    after = abs(thing - later)
+def word_for(before, after):
+    """The answer where it was so far to the thing, and is now so far."""
     if after < before:
         return "warm"
     if after > before:
         return "cold"
     return "same"
+
+
+def answer_to_move(thing, earlier, later):
+    return word_for(abs(thing - earlier), abs(thing - later))
 
 
 def row_of_answers(thing, stands):
